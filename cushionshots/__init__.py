@@ -1,0 +1,1 @@
+"""Cushionshots: a ball on a table with cushions."""
