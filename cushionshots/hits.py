@@ -79,17 +79,18 @@ def cushion_marks(lines, cushion):
     return (line, mark_from(start + 1, at % 2 * side, 2 * side), lines[1 - at // 2])
 
 
-def _side_marks(line):
+def side_marks(line):
+    """The marks (line, first, step) of the hits by a line."""
     side, start, _ = line
     return (line, mark_from(start + 1, 0, side), side)
 
 
-def _corner_marks(lines):
+def corner_marks(lines):
     """The list of the marks of the first line that are corners: one tuple, or none."""
     line, other = lines
     if line[2] == 0 or other[2] == 0:
         return []
-    _, first, step = _side_marks(line)
+    _, first, step = side_marks(line)
     grow, begin = other_at_marks(line, first, step, other)
     circle = other[0] * line[2]
     index = first_within(grow, begin, circle, 0, 0)
@@ -100,7 +101,7 @@ def _corner_marks(lines):
 
 def _hit_marks(lines):
     """The marks (line, first, step) of the hits by the first and by the second number, then of the corners."""
-    return [_side_marks(line) for line in lines] + _corner_marks(lines)
+    return [side_marks(line) for line in lines] + corner_marks(lines)
 
 
 def _count(marks, time):
@@ -113,7 +114,7 @@ def _time_of_count(marks, line, many):
     """The time of the first hit by a line with which there are so many hits, None if it does not move."""
     if line[2] == 0:
         return None
-    _, first, step = _side_marks(line)
+    _, first, step = side_marks(line)
     low, high = 0, many - 1
     while low < high:
         middle = (low + high) // 2

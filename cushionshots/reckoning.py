@@ -2,7 +2,8 @@
 
 A line is a tuple (side, start, speed): one of the two numbers of the free place, which is
 start at the time 0 and grows by speed, never below 0, in each unit of time. The marks of
-a line are the numbers first, first + step, first + 2 step and so on.
+a line are the numbers first, first + step, first + 2 step and so on. A slope is a tuple
+(grow, begin, bottom), bottom from 1 on: the number (grow * k + begin) / bottom at k.
 """
 
 from math import gcd
@@ -99,35 +100,57 @@ def first_within(grow, begin, circle, low, high):
 
     Multiples of circle, which is from 1 on, do not count.
     """
-    nearest = (low - begin) % circle
-    farthest = nearest + high - low
-    if nearest == 0 or farthest >= circle:
-        return 0
-    return _first_multiple(grow % circle, circle, nearest, farthest)
+    return first_between((grow, begin - high, circle), (grow, begin - low, circle))
 
 
-def _first_multiple(grow, circle, low, high):
-    """The least k for which grow * k, less whole circles, is from low to high, or None.
+def first_between(lower, upper):
+    """The least k from 0 on at which some integer is from one slope to another one, or None.
 
-    Here 0 <= grow < circle and 0 < low <= high < circle.
+    None, too, where the first slope lies above the second one at 0.
     """
-    steps = []
+    exchanged = []
     while True:
-        # Going backwards by the rest of the circle halves at least the next circle.
-        if 2 * grow > circle:
-            grow, low, high = circle - grow, circle - high, circle - low
-        if grow == 0:
+        grow, begin, bottom = lower
+        top_grow, top_begin, top_bottom = upper
+        if begin * top_bottom > top_begin * bottom:
             return None
-        many = -(-low // grow)
-        if grow * many <= high:
+        least = -(-begin // bottom)
+        if least * top_bottom <= top_begin:
+            many = 0
             break
-        # No multiple comes within the first circle; the least number of whole circles with
-        # which one comes is the same question with grow as its circle.
-        steps.append((grow, circle, low))
-        grow, circle, low, high = -circle % grow, grow, low % grow, high % grow
-    for step, around, least in reversed(steps):
-        many = -(-(least + around * many) // step)
+        # From here on the heights are told from the least integer above both slopes at 0.
+        begin, top_begin = begin - least * bottom, top_begin - least * top_bottom
+        rise = -(-grow // bottom)
+        if rise * top_bottom <= top_grow:
+            many = _first_out((grow - rise * bottom, begin, bottom), (top_grow - rise * top_bottom, top_begin))
+            break
+        grow, top_grow = grow % bottom, top_grow - grow // bottom * top_bottom
+        if top_grow <= 0:
+            return None
+        # Both now rise by less than 1, and the leftmost point between them is also the lowest
+        # one: the same question is asked with the two directions exchanged.
+        lower, upper = (top_bottom, -top_begin, top_grow), (bottom, -begin, grow)
+        exchanged.append(lower)
+    if many is None:
+        return None
+    for grow, begin, bottom in reversed(exchanged):
+        many = -(-(grow * many + begin) // bottom)
     return many
+
+
+def _first_out(lower, upper):
+    """The least k at which the lower slope is at most -1 or the upper one is at least 0, or None.
+
+    Both are above -1 and below 0 at 0; the lower one does not rise, the upper one does not fall.
+    """
+    grow, begin, bottom = lower
+    top_grow, top_begin = upper
+    found = []
+    if grow < 0:
+        found.append(-(-(begin + bottom) // -grow))
+    if top_grow > 0:
+        found.append(-(top_begin // top_grow))
+    return min(found, default=None)
 
 
 def count_within(many, grow, begin, circle, low, high):

@@ -1,6 +1,7 @@
 """The tests' own slow reckoning: the ball is rolled from cushion to cushion with exact fractions."""
 
 from fractions import Fraction
+from itertools import islice
 from math import floor, gcd
 from random import Random
 
@@ -68,6 +69,20 @@ class Roll:
                 return tuple(place[at] + way[at] * (time - begin) for at in (0, 1)), way
         raise AssertionError("not rolled so far")
 
+    def first_return(self):
+        """The least time above 0 with the place and the way of just behind 0."""
+        _, start, way, _, _ = self.legs[0]
+        at = 0 if way[0] else 1
+        for time, place, to, wait, _ in self.legs:
+            after = (start[at] - place[at]) / way[at]
+            there = tuple(place[n] + way[n] * after for n in (0, 1))
+            if to == way and there == start and 0 <= after < wait and time + after > 0:
+                return time + after
+        return Fraction(self.round)
+
+    def words(self):
+        return [word for _, word, _ in self.hits]
+
     def count(self, time, cushion=""):
         return sum(1 for at, word, _ in self.hits if at <= time and cushion in word)
 
@@ -102,6 +117,41 @@ class Roll:
             if begin <= end:
                 return pair(time + begin)
         return None
+
+
+def rolled_words(table, shot, many):
+    """The words of the first many hits."""
+    return [leg[4] for leg in islice(legs(table, shot), many)]
+
+
+def meetings(one, other):
+    """All times from 0 on up to which both are rolled with the same place; None if it is the same all the time."""
+    found = set()
+    at = [0, 0]
+    while at[0] < len(one.legs) and at[1] < len(other.legs):
+        first, second = one.legs[at[0]], other.legs[at[1]]
+        ends = (first[0] + first[3], second[0] + second[3])
+        begin = max(first[0], second[0])
+        gaps = [first[1][n] + first[2][n] * (begin - first[0]) for n in (0, 1)]
+        gaps = [gaps[n] - second[1][n] - second[2][n] * (begin - second[0]) for n in (0, 1)]
+        rates = [first[2][n] - second[2][n] for n in (0, 1)]
+        if gaps == [0, 0] and rates == [0, 0]:
+            return None
+        for n in (0, 1):
+            after = -gaps[n] / rates[n] if rates[n] else Fraction(0)
+            if gaps[n] + rates[n] * after == 0 == gaps[1 - n] + rates[1 - n] * after and 0 <= after <= min(ends) - begin:
+                found.add(begin + after)
+        at = [at[n] + int(ends[n] == min(ends)) for n in (0, 1)]
+    return sorted(time for time in found if time <= min(one.until, other.until))
+
+
+def parting(words, others):
+    """The least index at which two lists of words that are repeated for ever are unlike, or None."""
+    # Lists that agree so long agree for ever.
+    for at in range(len(words) + len(others)):
+        if words[at % len(words)] != others[at % len(others)]:
+            return at
+    return None
 
 
 def fold(side, number):

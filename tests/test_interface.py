@@ -19,10 +19,20 @@ INTERFACE = {
         "count_hits": "table shot time", "count_cushion": "table shot cushion time", "nth_hit": "table shot index",
         "hits": "table shot", "hit_words": "table shot many",
     },
+    "rounds": {"round_time": "table shot", "round_hits": "table shot", "corner_hit": "table shot"},
     "pockets": {
         "first_at": "table shot spot", "first_in_box": "table shot box", "first_in_stretch": "table shot stretch",
         "count_in_stretch": "table shot stretch time", "first_pocket": "table shot stretches",
     },
+    "balls": {
+        "first_meeting": "table shot other", "are_together": "table shot other",
+        "count_meetings": "table shot other time",
+    },
+    "cones": {
+        "cone": "table spot cushions", "direction_for": "table spot cushions", "words": "table spot many",
+        "count_words": "table spot many",
+    },
+    "apart": {"first_unlike": "table shot other", "telling": "table shots"},
 }
 
 

@@ -2,9 +2,10 @@
 
 import unittest
 from fractions import Fraction
+from math import ceil
 from random import Random
 
-from cushionshots.reckoning import count_within, earliest, first_within, floor_sum, fraction_of, spans
+from cushionshots.reckoning import count_within, earliest, first_between, first_within, floor_sum, fraction_of, spans
 from tests.quick import Watched
 from tests.slow import fold, how_many, least_within, whole_parts
 
@@ -30,6 +31,34 @@ class SmallTest(Watched):
                 for many in (0, 1, circle, 2 * circle):
                     count = count_within(many, grow, begin, circle, low, high)
                     self.assertEqual(count, len([k for k in found if k < many]), (many, grow, begin, circle, low, high))
+
+    def test_first_between_one_by_one(self):
+        chance = Random(3)
+        for _ in range(5000):
+            lower, upper = [
+                (chance.randint(-25, 25), chance.randint(-20, 20), chance.randint(1, 12)) for _ in range(2)
+            ]
+            heights = [Fraction(begin, bottom) for _, begin, bottom in (lower, upper)]
+            rises = [Fraction(grow, bottom) for grow, _, bottom in (lower, upper)]
+            wanted = None
+            for k in range(300 if heights[0] <= heights[1] else 0):
+                low, high = heights[0] + rises[0] * k, heights[1] + rises[1] * k
+                if low > high:
+                    break
+                if ceil(low) <= high:
+                    wanted = k
+                    break
+            self.assertEqual(first_between(lower, upper), wanted, (lower, upper))
+
+    def test_first_between_slopes_that_meet(self):
+        # They meet at an integer, beside one, and at 0.
+        self.assertEqual(first_between((15, 25, 100), (1, 5, 10)), 5)
+        self.assertIsNone(first_between((1, 1, 10), (-1, 9, 10)))
+        self.assertEqual(first_between((1, 0, 1), (-1, 0, 1)), 0)
+        self.assertIsNone(first_between((3, 1, 2), (2, 1, 2)))
+        self.assertIsNone(first_between((2, 1, 2), (2, 1, 2)))
+        self.assertEqual(first_between((3, 1, 2), (3, 1, 2)), 1)
+        self.assertIsNone(first_between((0, 2, 1), (5, 1, 1)))
 
     def test_floor_sum(self):
         chance = Random(1)
@@ -74,6 +103,24 @@ class GreatTest(Watched):
                     many = chance.randint(0, 10 ** digits)
                     count = how_many(many, grow, begin, circle, [(low, low + width)])
                     self.assertEqual(count_within(many, grow, begin, circle, low, low + width), count)
+
+
+    def test_great_slopes_with_one_integer_close_to_both(self):
+        chance = Random(4)
+        for digits in (10, 40):
+            for _ in range(30):
+                grow, bottom = chance.randint(1, 10 ** digits), chance.randint(1, 10 ** digits)
+                begin, width = chance.randint(0, bottom), chance.choice((0, 1, bottom // 10 ** (digits // 2)))
+                wanted = least_within(grow, begin, bottom, [(-width, 0)])
+                self.assertEqual(first_between((grow, begin, bottom), (grow, begin + width, bottom)), wanted)
+                if wanted is None:
+                    continue
+                # The upper slope rises a little more, but not so much that it comes to another integer.
+                many = bottom * (wanted + 2)
+                upper = (grow * many + 1, (begin + width) * many, bottom * many)
+                told = first_between((grow, begin, bottom), upper)
+                self.assertLessEqual(told, wanted)
+                self.assertGreaterEqual((upper[0] * told + upper[1]) // upper[2], -(-(grow * told + begin) // bottom))
 
 
 if __name__ == "__main__":

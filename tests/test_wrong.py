@@ -4,7 +4,7 @@ import unittest
 from copy import deepcopy
 from fractions import Fraction
 
-from cushionshots import errors, hits, places, pockets
+from cushionshots import apart, balls, cones, errors, hits, places, pockets, rounds
 from cushionshots.errors import ShotError
 from tests.quick import Watched
 
@@ -75,9 +75,24 @@ LISTS = [one for one in ODD if one != []] + [
     [list(GOOD_STRETCH)], iter([GOOD_STRETCH]),
 ] + [[GOOD_STRETCH, one] for one in STRETCHES] + [[one, GOOD_STRETCH] for one in STRETCHES]
 
+# Spots on the table that are not inside, too.
+NO_INSIDES = SPOTS + [(0, 1), (4, 1), (1, 0), (1, 2), (0, 0), (4, 2), (-1, 1), (1, -1), (5, 1), (1, 3), (2.0, 1)]
+NO_CUSHION_LISTS = ODD + [("N",), ("N", "E"), {"N"}, {"N": 1}, "N", "NE", 0, iter(["N"]), [["N"]], ["NE"], ["n"]] + [
+    told for one in CUSHIONS for told in ([one, "N"], ["N", one])
+]
+NO_CUSHION_LISTS = [one for one in NO_CUSHION_LISTS if one != ["W"]]
+OTHER_S = (1, 0, 1, 2)
+NO_SHOT_LISTS = ODD + [
+    (S, OTHER_S), {S, OTHER_S}, {S: 1, OTHER_S: 2}, S, [S], "WESN", 0, [[S, OTHER_S]], [list(S), OTHER_S], [[S], S],
+    iter([S, OTHER_S]),
+] + [told for one in SHOTS for told in ([one, S], [S, OTHER_S, one], [one])]
+
 TABLE = ("table", T, TABLES, errors.InvalidTable)
 SHOT = ("shot", S, SHOTS, errors.InvalidShot)
 TIME = ("time", (7, 1), FRACTIONS, errors.InvalidTime)
+OTHER = ("other", (3, 0, -1, 1), SHOTS, errors.InvalidShot)
+INSIDE = ("spot", (1, 1), NO_INSIDES, errors.InvalidSpot)
+COMING = ("cushions", ["N", "E"], NO_CUSHION_LISTS, errors.InvalidCushions)
 STRETCH = ("stretch", GOOD_STRETCH, STRETCHES, errors.InvalidStretch)
 
 # For each function its arguments in their order: name, good value, wrong values, error.
@@ -95,6 +110,18 @@ FUNCTIONS = [
     (hits.hits, [TABLE, SHOT]),
     (hits.hit_words, [TABLE, SHOT, ("many", 5, FROM_0, errors.InvalidNumber)]),
     (hits.count_cushion, [TABLE, SHOT, ("cushion", "S", CUSHIONS, errors.InvalidCushion), TIME]),
+    (rounds.round_time, [TABLE, SHOT]),
+    (rounds.round_hits, [TABLE, SHOT]),
+    (rounds.corner_hit, [TABLE, ("shot", (1, 1, 1, 1), SHOTS, errors.InvalidShot)]),
+    (balls.first_meeting, [TABLE, SHOT, OTHER]),
+    (balls.are_together, [TABLE, SHOT, OTHER]),
+    (balls.count_meetings, [TABLE, SHOT, OTHER, TIME]),
+    (cones.cone, [TABLE, INSIDE, COMING]),
+    (cones.direction_for, [TABLE, INSIDE, COMING]),
+    (cones.words, [TABLE, INSIDE, ("many", 3, FROM_1, errors.InvalidNumber)]),
+    (cones.count_words, [TABLE, INSIDE, ("many", 3, FROM_1, errors.InvalidNumber)]),
+    (apart.first_unlike, [TABLE, SHOT, ("other", OTHER_S, SHOTS, errors.InvalidShot)]),
+    (apart.telling, [TABLE, ("shots", [S, OTHER_S], NO_SHOT_LISTS, errors.InvalidShots)]),
     (pockets.first_at, [TABLE, SHOT, ("spot", (3, 0), SPOTS, errors.InvalidSpot)]),
     (pockets.first_in_box, [TABLE, SHOT, ("box", (2, 3, 0, 1), BOXES, errors.InvalidBox)]),
     (pockets.first_in_stretch, [TABLE, SHOT, STRETCH]),
@@ -154,6 +181,29 @@ class WrongTest(Watched):
                 self.assert_error(errors.InvalidStretch, function, [T, S, (cushion, good, wrong)] + rest)
             answer(pockets.first_pocket, T, S, [(cushion, 0, good)])
             self.assert_error(errors.InvalidStretches, pockets.first_pocket, [T, S, [(cushion, 0, wrong)]])
+
+    def test_always_together_behind_every_wrong_argument(self):
+        for wrong in FRACTIONS:
+            self.assert_error(errors.InvalidTime, balls.count_meetings, [T, S, S, wrong])
+        for wrong in SHOTS:
+            self.assert_error(errors.InvalidShot, balls.count_meetings, [T, S, wrong, (1, 1)])
+            self.assert_error(errors.InvalidShot, balls.count_meetings, [T, wrong, S, None])
+        for time in ((0, 1), (7, 2), (-1, 1)):
+            self.assert_error(errors.AlwaysTogether, balls.count_meetings, [T, S, S, time])
+            self.assert_error(errors.AlwaysTogether, balls.count_meetings, [T, (0, 1, 1, 1), (0, 1, -1, 1), time])
+
+    def test_tables_with_a_side_of_1_have_no_spot_inside(self):
+        for table in ((1, 1), (1, 7), (7, 1)):
+            for spot in ((0, 0), (1, 1), (0, 1), (1, 0)):
+                self.assert_error(errors.InvalidSpot, cones.cone, [table, spot, ["N"]])
+                self.assert_error(errors.InvalidSpot, cones.direction_for, [table, spot, []])
+                self.assert_error(errors.InvalidSpot, cones.words, [table, spot, 0])
+                self.assert_error(errors.InvalidSpot, cones.count_words, [table, spot, 1])
+
+    def test_spots_are_held_against_their_own_table(self):
+        self.assertEqual(cones.direction_for((2, 4), (1, 3), ["N"]), (0, 1))
+        for spot in ((2, 1), (1, 4), (3, 1)):
+            self.assert_error(errors.InvalidSpot, cones.cone, [(2, 4), spot, ["N"]])
 
     def test_turned(self):
         for wrong in NO_SHOTS:
@@ -227,7 +277,13 @@ class GoodTest(Watched):
         """Tuples and integers all through: no True for 1, no list for a tuple."""
         for function, arguments in FUNCTIONS:
             told = answer(function, *[argument[1] for argument in arguments])
-            kinds = [told] if function not in (hits.hits, hits.hit_words) else list(told)
+            if function == balls.are_together:
+                self.assertIs(told, False)
+                continue
+            kinds = [told] if function not in (hits.hits, hits.hit_words, cones.words) else list(told)
+            if function == cones.words:
+                self.assertEqual({type(one) for one in told}, {list})
+                kinds = [letter for one in told for letter in one]
             while kinds:
                 one = kinds.pop()
                 if type(one) is tuple:
