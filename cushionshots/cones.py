@@ -109,6 +109,7 @@ def _through(table, spot, view, cushion):
     at = index // 2
     # In odd columns and rows the two cushions have changed places.
     step = 1 if (index + cell[at]) % 2 == 1 else -1
+    # The ball rolls straight on, so it does not leave a cell by where it came in.
     if cell[at] * step < 0:
         return None
     gate_right, gate_left = _gate(table, spot, cell, at, step)
@@ -139,9 +140,12 @@ def _gate(table, spot, cell, at, step):
 
 
 def _least_between(right, left):
-    """The direction with the least sum between two in one quarter of the turn."""
-    across = 1 if right[0] + left[0] > 0 else -1
-    along = 1 if right[1] + left[1] > 0 else -1
+    """The direction with the least sum between two sides in one quarter of the turn.
+
+    No side is on an axis, as the spot is inside and the sides go to corners.
+    """
+    across = 1 if right[0] > 0 else -1
+    along = 1 if right[1] > 0 else -1
     low, high = (across * right[0], along * right[1]), (across * left[0], along * left[1])
     # Mirroring once exchanges right and left.
     if across != along:
@@ -154,12 +158,10 @@ def _least_in_first_quarter(low, high):
     """The direction between two with the least p, which has also the least q."""
     low_p, low_q = low
     high_p, high_q = high
-    p = 1
-    if high_p > 0:
-        # Strictly between is from 1 / low_p above the low side to 1 / high_p below the high one.
-        # Ahead of start these two leave no room.
-        start = -(-(low_p + high_p) // _turn(low, high))
-        p = start + first_between((low_q, low_q * start + 1, low_p), (high_q, high_q * start - 1, high_p))
+    # Strictly between is from 1 / low_p above the low side to 1 / high_p below the high one.
+    # Ahead of start these two leave no room.
+    start = -(-(low_p + high_p) // _turn(low, high))
+    p = start + first_between((low_q, low_q * start + 1, low_p), (high_q, high_q * start - 1, high_p))
     return (p, low_q * p // low_p + 1)
 
 

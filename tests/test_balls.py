@@ -40,6 +40,8 @@ class RollTest(Watched):
         self.assertEqual(first_meeting(*told), pair(times[0]) if times else None, told)
         self.assertEqual(count_meetings(*told, pair(one[1].until)), len(times), told)
         self.assertEqual(count_meetings(*told, (0, 1)), int(0 in times), told)
+        for time in ((-1, 10 ** 6), (-1, 1), (-7, 3), (-100, 1), (-(10 ** 40), 1)):
+            self.assertEqual(count_meetings(*told, time), 0, told)
         for at, time in enumerate(times[:20]):
             self.assertEqual(count_meetings(*told, pair(time)), at + 1, told)
             self.assertEqual(count_meetings(*told, pair(time + LITTLE)), at + 1, told)
