@@ -21,7 +21,7 @@ START = ((0, 0), None, None)
 def cone(table, spot, cushions):
     """The tuple (right, left) of the sides of the cone by which cushions come, or None."""
     _check_spot(table, spot)
-    if not _are_cushions(cushions):
+    if not are_cushions(cushions):
         raise InvalidCushions()
     view = START
     for cushion in cushions:
@@ -69,6 +69,11 @@ def count_words(table, spot, many):
     })
 
 
+def are_cushions(value):
+    """Whether any value is a list of cushions that is not empty."""
+    return isinstance(value, list) and len(value) > 0 and all([is_cushion(item) for item in value])
+
+
 def _check_spot(table, spot):
     check_table(table)
     if not are_whole(spot, 2) or not 0 < spot[0] < table[0] or not 0 < spot[1] < table[1]:
@@ -79,10 +84,6 @@ def _check_many(table, spot, many):
     _check_spot(table, spot)
     if not is_whole(many) or many < 1:
         raise InvalidNumber()
-
-
-def _are_cushions(value):
-    return isinstance(value, list) and len(value) > 0 and all([is_cushion(item) for item in value])
 
 
 def _direction(vector):

@@ -14,7 +14,7 @@ def is_table(value):
 def is_shot(table, value):
     """Whether any value is a shot on a table."""
     check_table(table)
-    return _is_any_shot(value) and value[0] <= table[0] and value[1] <= table[1]
+    return is_any_shot(value) and value[0] <= table[0] and value[1] <= table[1]
 
 
 def is_fraction(value):
@@ -54,7 +54,7 @@ def shot_at(table, shot, time):
 
 def turned(shot):
     """The shot from the same place in the opposite direction."""
-    if not _is_any_shot(shot):
+    if not is_any_shot(shot):
         raise InvalidShot()
     x, y, p, q = shot
     return (x, y, -p, -q)
@@ -78,6 +78,11 @@ def crossed(table, shot):
     return ((height, width), (y, x, q, p))
 
 
+def is_any_shot(value):
+    """Whether any value is a shot on some table."""
+    return are_whole(value, 4) and value[0] >= 0 and value[1] >= 0 and (value[2] != 0 or value[3] != 0)
+
+
 def check_table(table):
     """Raises InvalidTable for what is no table."""
     if not is_table(table):
@@ -99,11 +104,6 @@ def check_time(time):
 def _check_all(table, shot, time):
     check_shot(table, shot)
     check_time(time)
-
-
-def _is_any_shot(value):
-    """Whether any value is a shot on some table."""
-    return are_whole(value, 4) and value[0] >= 0 and value[1] >= 0 and (value[2] != 0 or value[3] != 0)
 
 
 def _fold(side, number):

@@ -10,7 +10,7 @@ from cushionshots.reckoning import mark_time, marks_passed, other_at_marks, span
 def first_at(table, shot, spot):
     """The least time from 0 on at which the place is a spot, or None."""
     check_shot(table, shot)
-    if not _is_spot(table, spot):
+    if not is_spot(table, spot):
         raise InvalidSpot()
     x, y = spot
     return _first_inside(table, shot, (x, x, y, y))
@@ -27,7 +27,7 @@ def first_in_box(table, shot, box):
 def first_in_stretch(table, shot, stretch):
     """The index of the first hit in a stretch, or None."""
     check_shot(table, shot)
-    if not _is_stretch(table, stretch):
+    if not is_stretch(table, stretch):
         raise InvalidStretch()
     time = _stretch_time(lines_of(table, shot), stretch)
     if time is None:
@@ -38,7 +38,7 @@ def first_in_stretch(table, shot, stretch):
 def count_in_stretch(table, shot, stretch, time):
     """How many hits with a time of at most this one are in a stretch."""
     check_shot(table, shot)
-    if not _is_stretch(table, stretch):
+    if not is_stretch(table, stretch):
         raise InvalidStretch()
     check_time(time)
     cushion, low, high = stretch
@@ -55,26 +55,20 @@ def first_pocket(table, shot, stretches):
     check_shot(table, shot)
     if not _are_stretches(table, stretches):
         raise InvalidStretches()
-    lines = lines_of(table, shot)
-    times = [_stretch_time(lines, stretch) for stretch in stretches]
+    times = stretch_times(table, shot, stretches)
     time = earliest(times)
     if time is None:
         return None
     return (count_hits(table, shot, time) - 1, times.index(time))
 
 
-def _is_spot(table, value):
+def is_spot(table, value):
+    """Whether any value is a spot on a table."""
     return are_whole(value, 2) and 0 <= value[0] <= table[0] and 0 <= value[1] <= table[1]
 
 
-def _is_box(table, value):
-    if not are_whole(value, 4):
-        return False
-    left, right, low, high = value
-    return 0 <= left <= right <= table[0] and 0 <= low <= high <= table[1]
-
-
-def _is_stretch(table, value):
+def is_stretch(table, value):
+    """Whether any value is a stretch of a cushion of a table."""
     if not isinstance(value, tuple) or len(value) != 3:
         return False
     cushion, low, high = value
@@ -86,8 +80,21 @@ def _is_stretch(table, value):
     return 0 <= low <= high <= width
 
 
+def stretch_times(table, shot, stretches):
+    """For each of the stretches the time of the first hit in it, or None."""
+    lines = lines_of(table, shot)
+    return [_stretch_time(lines, stretch) for stretch in stretches]
+
+
+def _is_box(table, value):
+    if not are_whole(value, 4):
+        return False
+    left, right, low, high = value
+    return 0 <= left <= right <= table[0] and 0 <= low <= high <= table[1]
+
+
 def _are_stretches(table, value):
-    return isinstance(value, list) and all([_is_stretch(table, item) for item in value])
+    return isinstance(value, list) and all([is_stretch(table, item) for item in value])
 
 
 def _first_inside(table, shot, box):

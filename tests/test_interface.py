@@ -8,7 +8,7 @@ from pathlib import Path
 
 PACKAGE = Path(__file__).resolve().parent.parent / "cushionshots"
 
-# Each file of the interface that is written so far, its functions and their parameters.
+# Each file of the interface with functions, and their parameters.
 INTERFACE = {
     "places": {
         "is_table": "value", "is_shot": "table value", "is_fraction": "value", "folded": "side number",
@@ -33,6 +33,30 @@ INTERFACE = {
         "count_words": "table spot many",
     },
     "apart": {"first_unlike": "table shot other", "telling": "table shots"},
+    "texts": {
+        "format_table": "table", "format_shot": "shot", "format_cushions": "cushions", "parse_table": "text",
+        "parse_shot": "text", "parse_cushions": "text",
+    },
+}
+
+# Each class of the interface, but for the errors: its file, its signature, its own methods with their parameters, its
+# own properties.
+CLASSES = {
+    "Ball": (
+        "objects", "(table, shot)", {
+            "__call__": "(self, time)", "__neg__": "(self)", "__and__": "(self, other)", "__eq__": "(self, other)",
+            "__contains__": "(self, x)",
+        }, ("table", "shot"),
+    ),
+    "LiveTable": (
+        "live", "(table, pockets=())", {
+            "add": "(self, shot)", "roll": "(self, many)", "take": "(self, number)", "undo": "(self)",
+            "try_changes": "(self, *changes)", "told_words": "(self)", "__len__": "(self)",
+        }, ("balls_now", "fallen_now", "time_now"),
+    ),
+    "CalmTable": ("kinds", "(table, pockets=())", {"told_words": "(self)"}, ()),
+    "BoundedTable": ("kinds", "(table, pockets=(), most=30)", {"told_words": "(self)"}, ()),
+    "CalmBoundedTable": ("kinds", "(table, pockets=(), most=30)", {"told_words": "(self)"}, ()),
 }
 
 
@@ -51,6 +75,34 @@ class InterfaceTest(unittest.TestCase):
                 found = getattr(module, function)
                 self.assertEqual(list(inspect.signature(found).parameters), parameters.split(), function)
                 self.assertEqual(found.__module__, "cushionshots." + name)
+
+    def test_classes_with_their_own_methods_and_properties(self):
+        for name, (file, signature, methods, properties) in CLASSES.items():
+            found = getattr(import_module("cushionshots." + file), name)
+            self.assertEqual(found.__module__, "cushionshots." + file)
+            self.assertEqual(str(inspect.signature(found)), signature)
+            for method, parameters in methods.items():
+                self.assertEqual(str(inspect.signature(vars(found)[method])), parameters, (name, method))
+            for one in properties:
+                self.assertIsInstance(vars(found)[one], property)
+                self.assertIsNone(vars(found)[one].fset)
+
+    def test_class_value_class_method_and_static_method(self):
+        from cushionshots.live import LiveTable
+
+        self.assertEqual(vars(LiveTable)["EMPTY"], ())
+        self.assertIsInstance(vars(LiveTable)["read"], classmethod)
+        self.assertEqual(str(inspect.signature(LiveTable.read)), "(table_text)")
+        self.assertIsInstance(vars(LiveTable)["is_valid"], staticmethod)
+        self.assertEqual(str(inspect.signature(LiveTable.is_valid)), "(value)")
+
+    def test_which_class_is_below_which(self):
+        from cushionshots.kinds import BoundedTable, CalmBoundedTable, CalmTable
+        from cushionshots.live import LiveTable
+
+        self.assertEqual((CalmTable.__bases__, BoundedTable.__bases__), ((LiveTable,), (LiveTable,)))
+        self.assertEqual(sorted(one.__name__ for one in CalmBoundedTable.__bases__), ["BoundedTable", "CalmTable"])
+        self.assertEqual(LiveTable.__bases__, (object,))
 
     def test_hits_is_a_generator(self):
         from cushionshots.hits import hits
